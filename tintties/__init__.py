@@ -1,0 +1,1 @@
+"""Tintties: ties tinted so that none that meet are alike."""
