@@ -1,4 +1,4 @@
-"""The package keeps to its part of Python: those rules that can be seen in a file's tree are held here."""
+"""Some of the rules of the package's part of Python: files, signs, size, imports, forms and names, by the tree of each file."""
 
 import ast
 import builtins
