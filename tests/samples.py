@@ -1,7 +1,47 @@
-"""Nets that several tests ask about: the same ones each time, drawn by a seed."""
+"""Nets and tintings that several tests ask about, drawn by a seed, and what the document says of them, told anew."""
 
+import unittest
+from collections import Counter
+from decimal import Decimal
+from fractions import Fraction
 from itertools import combinations
 from random import Random
+
+from tintties.errors import (
+    NoMeeting, NoName, NoStep, NoText, NotAlike, NotClean, NoTie, NotPlain, NotTwoSided, TintError, TooFew, TooGreat,
+)
+
+REFUSALS = (
+    NoMeeting, NoName, NoStep, NoText, NotAlike, NotClean, NoTie, NotPlain, NotTwoSided, TooFew, TooGreat,
+)
+
+
+class LikeAll:
+    """Equal to every thing, and below and above each."""
+
+    def __eq__(self, other):
+        return True
+
+    def __ne__(self, other):
+        return False
+
+    def __hash__(self):
+        return 0
+
+    def __lt__(self, other):
+        return True
+
+    __le__ = __gt__ = __ge__ = __lt__
+
+    def __index__(self):
+        return 0
+
+
+NO_NUMBERS = (
+    None, True, False, 0.0, 1.0, 0j, Fraction(0), Fraction(1, 2), Decimal(0), Decimal(1), "", "0", "1", "a", b"", b"0",
+    (), (0,), (0, 1), [], [0], {}, {0: 0}, set(), {0}, frozenset((0,)), range(1), object(), int, len, iter(()),
+    ValueError(), float("nan"), float("inf"), LikeAll(),
+)
 
 
 def complete(points):
@@ -75,3 +115,158 @@ def great_nets():
 def nets_beyond():
     """Somewhat beyond the bounds of a net: no net, but nothing is refused for it."""
     return [drawn(70, 230, 4), drawn_two_sided(70, 230, 5), ring(71)]
+
+
+def complete_two_sided(one, other):
+    return (one + other, tuple((left, one + right) for left in range(one) for right in range(other)))
+
+
+def several(net, times):
+    """Each tie so many times, turned about by turns."""
+    return (net[0], tuple(ends[::-1] if time % 2 else ends for time in range(times) for ends in net[1]))
+
+
+def star(points):
+    return (points, tuple((0, point) if point % 2 else (point, 0) for point in range(1, points)))
+
+
+def line(points):
+    return (points, tuple((point, point + 1) for point in range(points - 1)))
+
+
+def most_at_a_point(net):
+    return max(Counter(point for ends in net[1] for point in ends).values(), default=0)
+
+
+def clean(net, tints):
+    taken = Counter((point, tint) for ends, tint in zip(net[1], tints) if tint is not None for point in ends)
+    return all(times == 1 for times in taken.values())
+
+
+def drawn_tints(net, many, seed, bare=0.0):
+    """A clean tinting of many tints: bare are a share of the ties, and those for which no tint was left."""
+    source = Random(seed)
+    tints = [None] * len(net[1])
+    taken = [set() for point in range(net[0])]
+    for tie in source.sample(range(len(net[1])), len(net[1])):
+        one, other = net[1][tie]
+        left = sorted(set(range(many)) - taken[one] - taken[other])
+        if left and source.random() >= bare:
+            tints[tie] = source.choice(left)
+            taken[one].add(tints[tie])
+            taken[other].add(tints[tie])
+    return tuple(tints)
+
+
+def chain_by_hand(net, tints, point, one, other):
+    """The ties of a chain, found by going over all ties until none is added."""
+    reached = {point}
+    found = set()
+    added = True
+    while added:
+        added = False
+        for tie, ends in enumerate(net[1]):
+            if tie not in found and tints[tie] in (one, other) and reached & set(ends):
+                found.add(tie)
+                reached |= set(ends)
+                added = True
+    return found
+
+
+def step_by_hand(net, tints, step):
+    row = list(tints)
+    if step[0] == "turn":
+        for tie in chain_by_hand(net, tints, *step[1:]):
+            row[tie] = step[2] + step[3] - row[tie]
+    elif step[0] == "tint":
+        row[step[1]] = step[2]
+    else:
+        row[step[1]] = None
+    return tuple(row)
+
+
+class Judge(unittest.TestCase):
+    def assert_refused(self, made, asked, field=None):
+        """Asked is a function that is called; told is the refusal."""
+        with self.assertRaises(TintError) as taken:
+            asked()
+        error = taken.exception
+        self.assertIsInstance(error, ValueError)
+        self.assertEqual([other for other in REFUSALS if isinstance(error, other)], [made])
+        if field is not None:
+            self.assertEqual(vars(error), field)
+            self.assertEqual([type(value) for value in vars(error).values()], [type(value) for value in field.values()])
+        return error
+
+    def assert_numbers(self, row, kind=tuple):
+        self.assertIs(type(row), kind)
+        self.assertEqual({type(number) for number in row} - {int}, set())
+
+    def assert_step(self, net, step, many):
+        self.assertIs(type(step), tuple)
+        self.assertIn(step[0], ("turn", "tint", "bare"))
+        self.assertEqual(len(step), {"turn": 4, "tint": 3, "bare": 2}[step[0]])
+        self.assert_numbers(step[1:])
+        self.assertIn(step[1], range(net[0] if step[0] == "turn" else len(net[1])))
+        self.assertEqual(len(set(step[2:])), len(step[2:]))
+        for tint in step[2:]:
+            self.assertIn(tint, range(many))
+
+    def assert_steps(self, net, tints, steps, many):
+        """Each leaves a clean tinting of many tints; told is the last one."""
+        self.assertIs(type(steps), list)
+        for step in steps:
+            self.assert_step(net, step, many)
+            tints = step_by_hand(net, tints, step)
+            self.assertTrue(clean(net, tints), (net, step))
+        return tints
+
+    def assert_put(self, way, net, tints, tie, many, most_moved):
+        """One tie put in by the way; told is the tinting behind."""
+        steps = way.put(net, tints, tie, many)
+        behind = self.assert_steps(net, tints, steps, many)
+        self.assertLessEqual(len(steps), 4 * net[0] + 10)
+        self.assertIsNotNone(behind[tie])
+        others = [other for other in range(len(net[1])) if other != tie]
+        for other in others:
+            self.assertEqual(behind[other] is None, tints[other] is None)
+        moved = [other for other in others if behind[other] != tints[other]]
+        self.assertLessEqual(len(moved), most_moved(net[0]))
+        return behind
+
+    def assert_filled(self, way, net, tints, many, most_moved, seed=0, left=0):
+        """The bare ties put in one behind another, in an order drawn, but for some left bare."""
+        bare = [tie for tie, tint in enumerate(tints) if tint is None]
+        bare = Random(seed).sample(bare, len(bare))
+        for tie in bare[left:]:
+            tints = self.assert_put(way, net, tints, tie, many, most_moved)
+        self.assertEqual(sorted(bare[:left]), [tie for tie, tint in enumerate(tints) if tint is None])
+        return tints
+
+    def assert_no_tie(self, way, net, tints, many):
+        """What isn't the number of a bare tie, whatever many is and whatever the way says of the net."""
+        ties = len(net[1])
+        things = (-1, -ties, ties, ties + 1, 10 ** 30, -10 ** 30) + NO_NUMBERS
+        things += tuple(tie for tie, tint in enumerate(tints) if tint is not None)
+        things += tuple(thing for tie in range(min(ties, 3)) for thing in (float(tie), str(tie), (tie,), [tie], net[1][tie]))
+        for thing in things:
+            if type(thing) is int and 0 <= thing < ties and tints[thing] is None:
+                continue
+            for given in (many, 0, 1000):
+                self.assert_refused(NoTie, lambda: way.put(net, tints, thing, given), {})
+
+    def assert_same_again(self, make, asked):
+        """Asked are tuples (net, tints, tie, many), in this order, then the other way round, the lists told changed."""
+        way = make()
+        told = [way.put(*question) for question in asked]
+        kept = [tuple(steps) for steps in told]
+        self.assertEqual([tuple(make().put(*question)) for question in asked], kept)
+        for steps in told:
+            steps.append("changed")
+            steps.reverse()
+        again = [way.put(*question) for question in reversed(asked)][::-1]
+        self.assertEqual([tuple(steps) for steps in again], kept)
+        for steps in told:
+            steps.clear()
+        self.assertEqual([tuple(steps) for steps in again], kept)
+        self.assertEqual([tuple(way.put(*question)) for question in asked], kept)

@@ -1,4 +1,5 @@
-"""Some of the rules of the package's part of Python: files, signs, size, imports, forms and names, by the tree of each file."""
+"""Some of the rules of the package's part of Python, by the tree of each file: files, signs, size, imports, forms, names,
+and where walks, sets and keywords stand."""
 
 import ast
 import builtins
@@ -39,6 +40,15 @@ REST = (
 )
 
 
+WALKERS = {"zip", "enumerate", "reversed", "range"}
+WALKING_METHODS = {"items", "keys", "values"}
+WALKED_BY = {"list", "tuple", "dict", "sorted", "sum", "any", "all", "enumerate", "zip"}
+KEYWORDS = {
+    "sorted": {"key", "reverse"}, "min": {"key", "default"}, "max": {"key", "default"}, "sum": {"start"},
+    "enumerate": {"start"}, "zip": {"strict"},
+}
+
+
 def files():
     return sorted(PACKAGE.glob("*.py"))
 
@@ -65,6 +75,35 @@ def own_methods(trees):
         for tree in trees for node in ast.walk(tree) if isinstance(node, ast.ClassDef)
         for part in node.body if isinstance(part, ast.FunctionDef)
     }
+
+
+def called(node):
+    """The plain name that is called, or None."""
+    return node.func.id if isinstance(node, ast.Call) and isinstance(node.func, ast.Name) else None
+
+
+def is_walk(node):
+    if called(node) in WALKERS:
+        return True
+    return isinstance(node, ast.Call) and isinstance(node.func, ast.Attribute) and node.func.attr in WALKING_METHODS
+
+
+def is_walked_at_once(node, parent):
+    if isinstance(parent, (ast.For, ast.comprehension)):
+        return parent.iter is node
+    if called(parent) in ("min", "max"):
+        return parent.args == [node]
+    if isinstance(parent, ast.Call) and isinstance(parent.func, ast.Attribute) and parent.func.attr == "join":
+        return isinstance(parent.func.value, ast.Constant)
+    return called(parent) in WALKED_BY and parent.args[0] is node
+
+
+def is_set_in_place(parent):
+    if isinstance(parent, ast.Compare):
+        return all(isinstance(sign, (ast.In, ast.NotIn, ast.Eq, ast.NotEq)) for sign in parent.ops)
+    if isinstance(parent, ast.BinOp):
+        return isinstance(parent.op, (ast.Sub, ast.BitAnd, ast.BitOr, ast.BitXor))
+    return called(parent) in ("sorted", "len") and not parent.keywords
 
 
 class LanguageTest(unittest.TestCase):
@@ -154,6 +193,50 @@ class LanguageTest(unittest.TestCase):
                     if isinstance(operator, (ast.Is, ast.IsNot)):
                         self.assertIsInstance(right, ast.Constant, where)
                         self.assertIn(type(right.value), (bool, type(None)), where)
+
+    def parents(self):
+        for where, parent in self.nodes():
+            for node in ast.iter_child_nodes(parent):
+                yield where, node, parent
+
+    def test_walked_at_once(self):
+        for where, node, parent in self.parents():
+            if is_walk(node):
+                self.assertTrue(is_walked_at_once(node, parent), where)
+
+    def test_sets(self):
+        for where, node, parent in self.parents():
+            self.assertNotIsInstance(node, ast.Set, where)
+            if called(node) in ("set", "frozenset"):
+                self.assertTrue(is_set_in_place(parent), where)
+
+    def test_keywords_of_python_s_own(self):
+        for where, node in self.nodes():
+            if called(node) in BUILT_IN:
+                self.assertLessEqual({word.arg for word in node.keywords}, KEYWORDS.get(called(node), set()), where)
+
+    def test_no_local_like_a_name_of_the_top(self):
+        for name, tree in self.trees.items():
+            top = {node.name for node in tree.body if isinstance(node, (ast.FunctionDef, ast.ClassDef))}
+            top |= {alias.asname or alias.name for node in tree.body if isinstance(node, ast.ImportFrom) for alias in node.names}
+            top |= {node.targets[0].id for node in tree.body if isinstance(node, ast.Assign)}
+            for part in tree.body:
+                if isinstance(part, (ast.FunctionDef, ast.ClassDef)):
+                    local = {node.arg for node in ast.walk(part) if isinstance(node, ast.arg)}
+                    local |= {
+                        node.id for node in ast.walk(part)
+                        if isinstance(node, ast.Name) and isinstance(node.ctx, ast.Store)
+                    }
+                    self.assertEqual(local & top, set(), name)
+
+    def test_methods_and_values(self):
+        methods = own_methods(self.trees.values())
+        for where, node in self.nodes():
+            if isinstance(node, ast.Attribute) and isinstance(node.ctx, ast.Store):
+                self.assertNotIn(node.attr, methods, where)
+            if isinstance(node, ast.ClassDef):
+                names = [part.name for part in node.body if isinstance(part, ast.FunctionDef)]
+                self.assertEqual(len(set(names)), len(names), where)
 
     def test_functions_and_classes(self):
         for where, node in self.nodes():

@@ -13,14 +13,14 @@ def is_pair(thing):
     return isinstance(thing, tuple) and len(thing) == 2
 
 
-def is_point(thing, points):
-    return is_number(thing) and 0 <= thing < points
+def is_below(thing, bound):
+    return is_number(thing) and 0 <= thing < bound
 
 
 def is_tie(thing, points):
     if not is_pair(thing):
         return False
-    return is_point(thing[0], points) and is_point(thing[1], points) and thing[0] != thing[1]
+    return is_below(thing[0], points) and is_below(thing[1], points) and thing[0] != thing[1]
 
 
 def is_net(thing):
@@ -41,6 +41,11 @@ def ties_at(net, point):
 
 def between(net, one, other):
     return tuple([tie for tie, ends in enumerate(net[1]) if ends == (one, other) or ends == (other, one)])
+
+
+def across(net, tie, point):
+    ends = net[1][tie]
+    return ends[1] if ends[0] == point else ends[0]
 
 
 def crowd(net, point):
