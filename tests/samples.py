@@ -72,6 +72,20 @@ def drawn_two_sided(points, ties, seed):
     return (points, tuple(tuple(source.sample(pair, 2)) for pair in pairs))
 
 
+def drawn_even(points, crowd, seed):
+    """Nearly each point has just this crowd: several ties may be between the same two points."""
+    source = Random(seed)
+    ends = source.sample([point for point in range(points) for time in range(crowd)], points * crowd)
+    return (points, tuple((one, other) for one, other in zip(ends[::2], ends[1::2]) if one != other))
+
+
+def drawn_even_two_sided(half, crowd, seed):
+    """Each point has just this crowd."""
+    source = Random(seed)
+    left = source.sample(list(range(half)) * crowd, half * crowd)
+    return (2 * half, tuple((one, half + place % half) for place, one in enumerate(left)))
+
+
 def renamed(net, seed):
     """The same net with its points called otherwise and its ties in another order and turned."""
     source = Random(seed)
@@ -242,6 +256,17 @@ class Judge(unittest.TestCase):
             tints = self.assert_put(way, net, tints, tie, many, most_moved)
         self.assertEqual(sorted(bare[:left]), [tie for tie, tint in enumerate(tints) if tint is None])
         return tints
+
+    def assert_stirred(self, way, net, many, most_moved, seed, times=30):
+        """A full tinting, again and again some ties made bare, some chains turned, and the bare ties put in."""
+        source = Random(seed)
+        tints = self.assert_filled(way, net, drawn_tints(net, many, seed), many, most_moved, seed)
+        for time in range(times):
+            for tie in source.sample(range(len(net[1])), min(2, len(net[1]))):
+                tints = step_by_hand(net, tints, ("bare", tie))
+            for turn in range(4 if many > 1 else 0):
+                tints = step_by_hand(net, tints, ("turn", source.randrange(net[0]), *source.sample(range(many), 2)))
+            tints = self.assert_filled(way, net, tints, many, most_moved, seed + time)
 
     def assert_no_tie(self, way, net, tints, many):
         """What isn't the number of a bare tie, whatever many is and whatever the way says of the net."""

@@ -4,6 +4,9 @@ from samples import (
     Judge, complete, complete_two_sided, drawn_tints, great_nets, most_at_a_point, nets, nets_beyond, ring, several, star,
 )
 from tintties.errors import TooFew
+from tintties.fans import Plain
+from tintties.manifold import Manifold
+from tintties.sidedway import TwoSided
 from tintties.ways import Way
 
 
@@ -13,6 +16,24 @@ def none_moved(points):
 
 def needed(net):
     return max(2 * most_at_a_point(net) - 1, 0)
+
+
+class ClassesTest(unittest.TestCase):
+    def test_what_stands_under_what(self):
+        self.assertEqual(Way.__bases__, (object,))
+        for made in (TwoSided, Plain, Manifold):
+            self.assertEqual(made.__bases__, (Way,))
+            self.assertIsInstance(made(), Way)
+        for made in (Way, TwoSided, Plain, Manifold):
+            for other in (TwoSided, Plain, Manifold):
+                self.assertEqual(isinstance(made(), other), made is other)
+
+    def test_needed_by_each(self):
+        for most in list(range(30)) + [200, 999, 10 ** 50, 10 ** 50 + 1]:
+            self.assertEqual(Way().needed(most), 2 * most - 1 if most else 0)
+            self.assertEqual(TwoSided().needed(most), most)
+            self.assertEqual(Plain().needed(most), most + 1 if most else 0)
+            self.assertEqual(Manifold().needed(most), most + most // 2)
 
 
 class WayTest(Judge):
