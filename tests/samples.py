@@ -148,6 +148,91 @@ def line(points):
     return (points, tuple((point, point + 1) for point in range(points - 1)))
 
 
+def has_two_sides(net):
+    """By going over all ties until no point is added; a point and its twin on the other side never hang together."""
+    groups = {(point, side): {(point, side)} for point in range(net[0]) for side in (0, 1)}
+    for one, other in net[1]:
+        for side in (0, 1):
+            joined = groups[one, side] | groups[other, 1 - side]
+            for member in joined:
+                groups[member] = joined
+    return not any((point, 1) in groups[point, 0] for point in range(net[0]))
+
+
+def is_plain_by_hand(net):
+    return len({frozenset(ends) for ends in net[1]}) == len(net[1])
+
+
+def two_sided_nets():
+    found = [net for net in nets() if has_two_sides(net)]
+    found += [complete_two_sided(one, other) for one in range(1, 7) for other in (1, 3, 6)]
+    found += [renamed(several(complete_two_sided(3, 4), times), times) for times in (2, 5, 16)]
+    found += [several(ring(4), 7), several(ring(6), 3), renamed(ring(20), 1), line(12), several(line(5), 4), star(15)]
+    found += [several((2, ((0, 1),)), times) for times in (1, 2, 30)]
+    found += [(9, ((0, 1), (1, 0), (3, 4), (4, 5), (5, 6), (6, 3), (3, 4)))]
+    return found
+
+
+def great_two_sided_nets():
+    return [
+        complete_two_sided(14, 14), renamed(complete_two_sided(10, 20), 3), drawn_two_sided(60, 200, 3),
+        several(complete_two_sided(5, 5), 8), renamed(several(ring(40), 5), 2), several((2, ((1, 0),)), 200),
+        drawn_two_sided(70, 230, 5),
+    ]
+
+
+def odd_nets():
+    found = [net for net in nets() + great_nets() + nets_beyond() if not has_two_sides(net)]
+    return found + [ring(3), ring(5), ring(59), several(ring(7), 3), complete(4), renamed(complete(9), 1)]
+
+
+def plain_nets():
+    found = [net for net in nets() if is_plain_by_hand(net)]
+    found += [complete(points) for points in range(2, 10)]
+    found += [renamed(complete(points), points) for points in (4, 5, 6, 7, 11)]
+    found += [ring(3), ring(4), ring(7), ring(31), star(12), line(9), complete_two_sided(4, 5)]
+    found += [drawn_plain(9, ties, ties) for ties in range(18, 36, 3)]
+    return found
+
+
+def great_plain_nets():
+    return [
+        complete(20), renamed(complete(19), 1), complete_two_sided(14, 14), drawn_plain(60, 200, 2), drawn_plain(25, 200, 3),
+        drawn_plain(70, 230, 4),
+    ]
+
+
+def doubled_nets():
+    found = [net for net in nets() + great_nets() + nets_beyond() if not is_plain_by_hand(net)]
+    found += [(2, ((0, 1), (1, 0))), (2, ((0, 1), (0, 1))), several(ring(5), 2), several(complete(6), 3)]
+    for place in (0, 7, 14):
+        ties = complete(6)[1]
+        found.append((6, ties + (ties[place],)))
+        found.append((6, (ties[place][::-1],) + ties))
+    return found
+
+
+def fat_nets():
+    """Few points with many ties between the same two."""
+    found = [several(ring(3), times) for times in range(1, 12)]
+    found += [renamed(several(ring(5), times), times) for times in (1, 2, 3, 8)]
+    found += [several(star(5), times) for times in (1, 4)] + [several((2, ((0, 1),)), times) for times in (1, 2, 3, 40)]
+    found += [drawn(points, ties, seed) for seed, (points, ties) in enumerate(
+        (points, ties) for points in (3, 4, 5) for ties in (4, 7, 10, 15, 25, 40)
+    )]
+    found += [(3, ((0, 1),) * one + ((1, 2),) * two + ((2, 0),) * three)
+              for one, two, three in ((3, 3, 2), (3, 2, 2), (5, 4, 4), (4, 4, 5), (1, 6, 6), (7, 1, 2))]
+    found += [several(complete(4), 5), several(line(6), 4), several(complete_two_sided(2, 3), 4)]
+    return found
+
+
+def great_fat_nets():
+    return [
+        several(ring(3), 66), several(ring(5), 40), several((2, ((0, 1),)), 200), drawn(6, 200, 1), drawn(60, 200, 2),
+        several(star(11), 20), complete(20), drawn(70, 230, 4), several(complete(5), 20),
+    ]
+
+
 def most_at_a_point(net):
     return max(Counter(point for ends in net[1] for point in ends).values(), default=0)
 
@@ -215,6 +300,26 @@ class Judge(unittest.TestCase):
     def assert_numbers(self, row, kind=tuple):
         self.assertIs(type(row), kind)
         self.assertEqual({type(number) for number in row} - {int}, set())
+
+    def assert_odd_ring(self, net, error):
+        """The refusal's field, which it has alone, bars two sides."""
+        self.assertEqual(list(vars(error)), ["ring"])
+        row = error.ring
+        self.assert_numbers(row)
+        self.assertGreaterEqual(len(row), 3)
+        self.assertEqual(len(row) % 2, 1)
+        self.assertEqual(len(set(row)), len(row))
+        tied = {frozenset(ends) for ends in net[1]}
+        for place, point in enumerate(row):
+            self.assertIn(frozenset((row[place - 1], point)), tied)
+
+    def assert_pair(self, net, error):
+        """The refusal's field, which it has alone, bars that the net is plain."""
+        self.assertEqual(list(vars(error)), ["pair"])
+        self.assert_numbers(error.pair)
+        lower, higher = error.pair
+        self.assertTrue(0 <= lower < higher < len(net[1]), error.pair)
+        self.assertEqual(set(net[1][lower]), set(net[1][higher]))
 
     def assert_step(self, net, step, many):
         self.assertIs(type(step), tuple)

@@ -2,8 +2,8 @@ import unittest
 from random import Random
 
 from samples import (
-    Judge, complete, complete_two_sided, drawn_plain, drawn_tints, great_nets, line, most_at_a_point, nets, nets_beyond,
-    renamed, ring, several, star,
+    Judge, complete, doubled_nets, drawn_plain, drawn_tints, great_plain_nets, most_at_a_point, plain_nets, renamed,
+    ring, several,
 )
 from tintties.errors import NotPlain, TooFew
 from tintties.fans import Plain
@@ -13,44 +13,7 @@ def twice_points(points):
     return 2 * points
 
 
-def is_plain_by_hand(net):
-    return len({frozenset(ends) for ends in net[1]}) == len(net[1])
-
-
-def plain_nets():
-    found = [net for net in nets() if is_plain_by_hand(net)]
-    found += [complete(points) for points in range(2, 10)]
-    found += [renamed(complete(points), points) for points in (4, 5, 6, 7, 11)]
-    found += [ring(3), ring(4), ring(7), ring(31), star(12), line(9), complete_two_sided(4, 5)]
-    found += [drawn_plain(9, ties, ties) for ties in range(18, 36, 3)]
-    return found
-
-
-def great_plain_nets():
-    return [
-        complete(20), renamed(complete(19), 1), complete_two_sided(14, 14), drawn_plain(60, 200, 2), drawn_plain(25, 200, 3),
-        drawn_plain(70, 230, 4),
-    ]
-
-
-def doubled_nets():
-    found = [net for net in nets() + great_nets() + nets_beyond() if not is_plain_by_hand(net)]
-    found += [(2, ((0, 1), (1, 0))), (2, ((0, 1), (0, 1))), several(ring(5), 2), several(complete(6), 3)]
-    for place in (0, 7, 14):
-        ties = complete(6)[1]
-        found.append((6, ties + (ties[place],)))
-        found.append((6, (ties[place][::-1],) + ties))
-    return found
-
-
 class PlainTest(Judge):
-    def assert_pair(self, net, error):
-        self.assertEqual(list(vars(error)), ["pair"])
-        self.assert_numbers(error.pair)
-        lower, higher = error.pair
-        self.assertTrue(0 <= lower < higher < len(net[1]), error.pair)
-        self.assertEqual(set(net[1][lower]), set(net[1][higher]))
-
     def test_needed(self):
         for most, need in ((0, 0), (1, 2), (2, 3), (3, 4), (4, 5), (200, 201), (10 ** 40, 10 ** 40 + 1)):
             self.assertEqual(Plain().needed(most), need)

@@ -2,8 +2,8 @@ import unittest
 from random import Random
 
 from samples import (
-    Judge, complete, complete_two_sided, drawn, drawn_even, drawn_tints, great_nets, line, most_at_a_point, nets, nets_beyond, renamed,
-    ring, several, star,
+    Judge, complete, drawn, drawn_even, drawn_tints, fat_nets, great_fat_nets, great_nets, most_at_a_point, nets,
+    nets_beyond, ring, several,
 )
 from tintties.errors import TooFew
 from tintties.manifold import Manifold
@@ -15,27 +15,6 @@ def twice_points(points):
 
 def needed(net):
     return most_at_a_point(net) * 3 // 2
-
-
-def fat_nets():
-    """Few points with many ties between the same two."""
-    found = [several(ring(3), times) for times in range(1, 12)]
-    found += [renamed(several(ring(5), times), times) for times in (1, 2, 3, 8)]
-    found += [several(star(5), times) for times in (1, 4)] + [several((2, ((0, 1),)), times) for times in (1, 2, 3, 40)]
-    found += [drawn(points, ties, seed) for seed, (points, ties) in enumerate(
-        (points, ties) for points in (3, 4, 5) for ties in (4, 7, 10, 15, 25, 40)
-    )]
-    found += [(3, ((0, 1),) * one + ((1, 2),) * two + ((2, 0),) * three)
-              for one, two, three in ((3, 3, 2), (3, 2, 2), (5, 4, 4), (4, 4, 5), (1, 6, 6), (7, 1, 2))]
-    found += [several(complete(4), 5), several(line(6), 4), several(complete_two_sided(2, 3), 4)]
-    return found
-
-
-def great_fat_nets():
-    return [
-        several(ring(3), 66), several(ring(5), 40), several((2, ((0, 1),)), 200), drawn(6, 200, 1), drawn(60, 200, 2),
-        several(star(11), 20), complete(20), drawn(70, 230, 4), several(complete(5), 20),
-    ]
 
 
 class ManifoldTest(Judge):

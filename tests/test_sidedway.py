@@ -2,11 +2,10 @@ import unittest
 from random import Random
 
 from samples import (
-    Judge, complete, complete_two_sided, drawn_even_two_sided, drawn_tints, drawn_two_sided, great_nets, line, most_at_a_point, nets, nets_beyond,
-    renamed, ring, several, star,
+    Judge, complete, complete_two_sided, drawn_even_two_sided, drawn_tints, great_two_sided_nets, line,
+    most_at_a_point, odd_nets, renamed, ring, several, two_sided_nets,
 )
 from tintties.errors import NotTwoSided, TooFew
-from tintties.sides import sides
 from tintties.sidedway import TwoSided
 
 
@@ -14,41 +13,7 @@ def fewer_than_points(points):
     return points - 1
 
 
-def two_sided_nets():
-    found = [net for net in nets() if sides(net)[0] == "sides"]
-    found += [complete_two_sided(one, other) for one in range(1, 7) for other in (1, 3, 6)]
-    found += [renamed(several(complete_two_sided(3, 4), times), times) for times in (2, 5, 16)]
-    found += [several(ring(4), 7), several(ring(6), 3), renamed(ring(20), 1), line(12), several(line(5), 4), star(15)]
-    found += [several((2, ((0, 1),)), times) for times in (1, 2, 30)]
-    found += [(9, ((0, 1), (1, 0), (3, 4), (4, 5), (5, 6), (6, 3), (3, 4)))]
-    return found
-
-
-def great_two_sided_nets():
-    return [
-        complete_two_sided(14, 14), renamed(complete_two_sided(10, 20), 3), drawn_two_sided(60, 200, 3),
-        several(complete_two_sided(5, 5), 8), renamed(several(ring(40), 5), 2), several((2, ((1, 0),)), 200),
-        drawn_two_sided(70, 230, 5),
-    ]
-
-
-def odd_nets():
-    found = [net for net in nets() + great_nets() + nets_beyond() if sides(net)[0] == "ring"]
-    return found + [ring(3), ring(5), ring(59), several(ring(7), 3), complete(4), renamed(complete(9), 1)]
-
-
 class TwoSidedTest(Judge):
-    def assert_odd_ring(self, net, error):
-        self.assertEqual(list(vars(error)), ["ring"])
-        row = error.ring
-        self.assert_numbers(row)
-        self.assertGreaterEqual(len(row), 3)
-        self.assertEqual(len(row) % 2, 1)
-        self.assertEqual(len(set(row)), len(row))
-        tied = {frozenset(ends) for ends in net[1]}
-        for place, point in enumerate(row):
-            self.assertIn(frozenset((row[place - 1], point)), tied)
-
     def test_needed(self):
         for most in (0, 1, 2, 3, 4, 5, 200, 10 ** 40):
             self.assertEqual(TwoSided().needed(most), most)

@@ -50,10 +50,10 @@ def turned_and_handed_on(net, tints, hub, fan, many):
     behind = turned(net, tints, hub, one, other)
     # The fan couldn't go on, so it has the hub's tie of the other tint. Ahead of that tie it is a fan behind the turn,
     # too. Where the chain ended at the tip just ahead of it, the other tint isn't free there, but the whole is a fan.
-    short = fan[:[tints[tie] for tie in fan].index(other)]
-    if other not in free_tints(net, behind, across(net, short[-1], hub), many):
-        short = fan
-    return [("turn", hub, one, other)] + handed_on(behind, short, other)
+    place = [tints[tie] for tie in fan].index(other)
+    tip = across(net, fan[place - 1], hub)
+    used = fan[:place] if other in free_tints(net, behind, tip, many) else fan
+    return [("turn", hub, one, other)] + handed_on(behind, used, other)
 
 
 class Plain(Way):
