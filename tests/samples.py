@@ -10,10 +10,16 @@ from random import Random
 from tintties.errors import (
     NoMeeting, NoName, NoStep, NoText, NotAlike, NotClean, NoTie, NotPlain, NotTwoSided, TintError, TooFew, TooGreat,
 )
+from tintties.fans import Plain
+from tintties.manifold import Manifold
+from tintties.sidedway import TwoSided
+from tintties.ways import Way
 
 REFUSALS = (
     NoMeeting, NoName, NoStep, NoText, NotAlike, NotClean, NoTie, NotPlain, NotTwoSided, TooFew, TooGreat,
 )
+
+WAYS = (Way, TwoSided, Plain, Manifold)
 
 
 class LikeAll:
@@ -36,6 +42,13 @@ class LikeAll:
     def __index__(self):
         return 0
 
+
+NO_NAMES = (
+    "", "A", "aA", "Anna", "ninelette", "ab c", "a b", " a", "a ", "a\n", "\na", "\n", " ", "\t", "a\t", "a1", "1", "0", "a_",
+    "a-b", "a.", "\u00e4", "\u00df", "\u0131", "\u00aa", "\u03b1", "\u0430", "a\u0301", "\ufb01", "\uff41", "a\u00a0",
+    "a\u200b", "\u2028", "a\x00", "\x00", "{", "`", "a{", "a`", "z" * 9, "z" * 100, b"a", b"", bytearray(b"a"),
+    ("a",), ["a"], {"a": "a"}, {"a"}, ("a", "b"), (), [], {},
+)
 
 NO_NUMBERS = (
     None, True, False, 0.0, 1.0, 0j, Fraction(0), Fraction(1, 2), Decimal(0), Decimal(1), "", "0", "1", "a", b"", b"0",
@@ -233,6 +246,46 @@ def great_fat_nets():
     ]
 
 
+def name_of(place):
+    """A name for a place, unlike for unlike places: of one letter, then of two, then of up to eight."""
+    letters = "etaoinshrdlucmfwypvbgkjqxz"
+    if place < 26:
+        return letters[place]
+    return letters[place % 26] * (1 + place % 6) + letters[place // 26 - 1] + "x"
+
+
+def written(net, hours):
+    """The lines of a timetable's text, by names for the points; an hour is left out where it is None."""
+    return [
+        f"{name_of(one)} {name_of(other)}" + ("" if hour is None else f" {hour}")
+        for (one, other), hour in zip(net[1], hours)
+    ]
+
+
+def needed_by_hand(way, most):
+    """Way None is a Manifold."""
+    if most == 0:
+        return 0
+    return {Way: 2 * most - 1, TwoSided: most, Plain: most + 1}.get(way.__class__, most + most // 2)
+
+
+def most_moved_by_hand(way, points):
+    return {Way: 0, TwoSided: points - 1}.get(way.__class__, 2 * points)
+
+
+def suits(way, net):
+    """Whether the way takes the net."""
+    if isinstance(way, TwoSided):
+        return has_two_sides(net)
+    return is_plain_by_hand(net) if isinstance(way, Plain) else True
+
+
+def spread_of(tints, many):
+    """By how many ties the fullest tint is ahead of the emptiest."""
+    numbers = Counter(tint for tint in tints if tint is not None)
+    return max([numbers[tint] for tint in range(many)], default=0) - min([numbers[tint] for tint in range(many)], default=0)
+
+
 def most_at_a_point(net):
     return max(Counter(point for ends in net[1] for point in ends).values(), default=0)
 
@@ -385,18 +438,22 @@ class Judge(unittest.TestCase):
             for given in (many, 0, 1000):
                 self.assert_refused(NoTie, lambda: way.put(net, tints, thing, given), {})
 
-    def assert_same_again(self, make, asked):
-        """Asked are tuples (net, tints, tie, many), in this order, then the other way round, the lists told changed."""
-        way = make()
-        told = [way.put(*question) for question in asked]
+    def assert_lists_again(self, ask, asked):
+        """Asked again, and the other way round, the same lists come, whatever was done to those told before."""
+        told = [ask(*question) for question in asked]
         kept = [tuple(steps) for steps in told]
-        self.assertEqual([tuple(make().put(*question)) for question in asked], kept)
         for steps in told:
             steps.append("changed")
             steps.reverse()
-        again = [way.put(*question) for question in reversed(asked)][::-1]
+        again = [ask(*question) for question in reversed(asked)][::-1]
         self.assertEqual([tuple(steps) for steps in again], kept)
         for steps in told:
             steps.clear()
         self.assertEqual([tuple(steps) for steps in again], kept)
-        self.assertEqual([tuple(way.put(*question)) for question in asked], kept)
+        self.assertEqual([tuple(ask(*question)) for question in asked], kept)
+        return kept
+
+    def assert_same_again(self, make, asked):
+        """Asked are tuples (net, tints, tie, many); the same of each way that is made so."""
+        kept = self.assert_lists_again(make().put, asked)
+        self.assertEqual([tuple(make().put(*question)) for question in asked], kept)

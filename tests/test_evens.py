@@ -1,21 +1,14 @@
 import unittest
-from collections import Counter
 
 from samples import (
     Judge, complete, complete_two_sided, drawn, drawn_tints, fat_nets, great_nets, line, most_at_a_point, nets,
-    nets_beyond, renamed, ring, several, star,
+    nets_beyond, renamed, ring, several, spread_of, star,
 )
 from tintties.errors import TooFew
 from tintties.evens import evened
 from tintties.fans import Plain
 from tintties.tinted import tinted
 from tintties.ways import Way
-
-
-def spread(tints, many):
-    """By how many ties the fullest tint is ahead of the emptiest."""
-    numbers = Counter(tint for tint in tints if tint is not None)
-    return max(numbers[tint] for tint in range(many)) - min(numbers[tint] for tint in range(many))
 
 
 def lopsided(net):
@@ -30,9 +23,9 @@ class EvenedTest(Judge):
         for step in steps:
             self.assertEqual(step[0], "turn")
         self.assertLessEqual(len(steps), len(net[1]))
-        self.assertLessEqual(spread(behind, many), 1)
+        self.assertLessEqual(spread_of(behind, many), 1)
         self.assertEqual([tint is None for tint in behind], [tint is None for tint in tints])
-        if spread(tints, many) < 2:
+        if spread_of(tints, many) < 2:
             self.assertEqual(steps, [])
         return behind
 
@@ -112,16 +105,7 @@ class EvenedTest(Judge):
     def test_asked_again(self):
         asked = [(net, lopsided(net), most_at_a_point(net) * 2 + seed % 3) for seed, net in enumerate(nets())]
         asked.append((drawn(40, 90, 1), lopsided(drawn(40, 90, 1)), 40))
-        told = [evened(*question) for question in asked]
-        kept = [tuple(steps) for steps in told]
-        for steps in told:
-            steps.append("changed")
-            steps.reverse()
-        again = [evened(*question) for question in reversed(asked)][::-1]
-        self.assertEqual([tuple(steps) for steps in again], kept)
-        for steps in told:
-            steps.clear()
-        self.assertEqual([tuple(steps) for steps in again], kept)
+        self.assert_lists_again(evened, asked)
 
 
 if __name__ == "__main__":

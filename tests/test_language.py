@@ -24,7 +24,13 @@ WORDS_OUT = re.compile(
     r"\b(type|typing|typing_extensions|enum|Enum|IntEnum|StrEnum|Flag|IntFlag|Generic|Protocol|ABC|ABCMeta|namedtuple"
     r"|NamedTuple|TypedDict|TYPE_CHECKING|abstractmethod)\b|dataclass|overload|contextmanager"
 )
-NAMES_OUT = {"register", "mro", "elements", "open", "input", "version_info", "with_traceback", "add_note", "super"}
+NAMES_OUT = set("""
+    register mro elements open input version_info with_traceback add_note attrgetter breakpoint builtins compile copyright
+    credits delattr dir eval exec exit gc getattr globals hasattr help id importlib license locals methodcaller os quit
+    setattr super type vars sys __name__
+""".split())
+VALUES = {"count", "index", "title", "find", "get", "join", "lower", "upper", "split", "strip", "copy", "add"}
+OF_PYTHON_S_OWN = {name for kind in (str, int, list, tuple, dict, set, bytes) for name in dir(kind)}
 STATEMENTS = (
     ast.Module, ast.FunctionDef, ast.ClassDef, ast.Return, ast.Assign, ast.AugAssign, ast.For, ast.While, ast.If,
     ast.Raise, ast.Try, ast.ImportFrom, ast.Expr, ast.Pass, ast.Break, ast.Continue,
@@ -237,6 +243,15 @@ class LanguageTest(unittest.TestCase):
             if isinstance(node, ast.ClassDef):
                 names = [part.name for part in node.body if isinstance(part, ast.FunctionDef)]
                 self.assertEqual(len(set(names)), len(names), where)
+
+    def test_own_methods_and_values(self):
+        for name in own_methods(self.trees.values()) - UNDERSCORED:
+            self.assertNotIn(name, OF_PYTHON_S_OWN - METHODS - {"add", "discard"})
+        for where, node in self.nodes():
+            if isinstance(node, ast.Attribute) and isinstance(node.ctx, ast.Store):
+                self.assertNotIn(node.attr, OF_PYTHON_S_OWN - VALUES | {"args"}, where)
+            if isinstance(node, ast.FunctionDef) and node.name == "__init__":
+                self.assertFalse([part for part in ast.walk(node) if isinstance(part, ast.Return)], where)
 
     def test_functions_and_classes(self):
         for where, node in self.nodes():

@@ -35,3 +35,7 @@ class Manifold(Way):
 
     def made_room(self, net, tints, tie, many):
         return room_by_a_third(net, tints, tie, many)
+
+
+def way_or_manifold(way):
+    return Manifold() if way is None else way

@@ -50,3 +50,7 @@ def walked(net, tints, steps):
         now = done(net, now, step)
         told.append(now)
     return told
+
+
+def behind(net, tints, steps):
+    return ([tints] + walked(net, tints, steps))[-1]
